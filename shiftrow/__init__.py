@@ -1,0 +1,1 @@
+"""Texts on tapes with two sets of signs, and shifts between them."""
