@@ -31,6 +31,11 @@ def check_state(state):
         raise BadNumber("a state is 0 or 1")
 
 
+def is_common(sets, code):
+    """Tell whether a code of a sign reads alike in both states."""
+    return sets[0][code] == sets[1][code]
+
+
 def read(sets, tape, state):
     """Tell what the tape reads as, begun in the state, and the state behind it."""
     check_sets(sets)
